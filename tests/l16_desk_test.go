@@ -134,7 +134,7 @@ func textBy(o impl.WorldOp) string {
 	return ""
 }
 
-// This one stands ahead of all others that read a line, so that the first words of all are asked for at once.
+// This one stands ahead of all others that read or show a line, so that the first words of all are asked for at once.
 func TestTheFirstWordsOfAll(t *testing.T) {
 	var all sync.WaitGroup
 	for i := range 32 {
@@ -143,6 +143,7 @@ func TestTheFirstWordsOfAll(t *testing.T) {
 			defer all.Done()
 			act := actWords[1+i%10]
 			readsAs(t, "right "+act.word+" 7", readBack(1, act.kinds[1], 7, ""))
+			showsAs(t, readBack(1, act.kinds[1], 7, ""), "right "+act.word+" 7")
 		}()
 	}
 	all.Wait()
